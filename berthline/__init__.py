@@ -1,0 +1,1 @@
+"""Berthline: ships along one quay."""
