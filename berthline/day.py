@@ -1,23 +1,24 @@
 """The deeds of a day along a quay, told as rows of words."""
+from berthline.digits import number_of, text_of
 from berthline.errors import NoShip, QuayError
 from berthline.quay import Quay
 
 
 def metres(word):
-    try:
-        return int(word)
-    except ValueError:
-        raise NoShip("a ship's length is a whole number of metres") from None
+    number = number_of(word)
+    if number is None:
+        raise NoShip("a ship's length is a whole number of metres")
+    return number
 
 
 def done(quay, words):
     if len(words) == 3 and words[0] == "come":
-        return str(quay.come(words[1], metres(words[2])))
+        return text_of(quay.come(words[1], metres(words[2])))
     if len(words) == 2 and words[0] == "leave":
         quay.leave(words[1])
         return "gone"
     if words == ["up"]:
-        return str(quay.move_up())
+        return text_of(quay.move_up())
     # Words that tell no deed of the three are refused, not guessed at.
     return "no"
 

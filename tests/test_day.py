@@ -85,9 +85,6 @@ class ToldTest(unittest.TestCase):
         rows = [f"come A {GREAT - 8}", "come B 3", "leave A", "up", f"come C {GREAT - 8}"]
         self.assertEqual(told(GREAT, 5, rows), ["0", str(GREAT - 3), "gone", str(GREAT - 3), "8"])
 
-    def test_a_length_with_more_digits_than_python_reads_at_once(self):
-        self.assertEqual(told(100, 5, ["come A " + "9" * 5000, "come A 5"]), ["no", "0"])
-
     def test_a_quay_of_nought_metres(self):
         self.assertEqual(told(0, 0, ["come A 1", "up", "leave A"]), ["no", "0", "no"])
 
@@ -163,6 +160,66 @@ class BerthsTest(unittest.TestCase):
         self.assertEqual(other, [("A", 0, 10)])
         self.assertEqual(berths(100, 5, ["come A 10"]), [("A", 0, 10)])
         self.assertEqual(berths(100, 5, []), [])
+
+
+class ManyDigitsTest(unittest.TestCase):
+    """Numbers of more digits than int and str take; compared by ==, as a failure could not show them."""
+
+    QUAY = 10 ** 9000
+
+    def test_a_first_metre(self):
+        for count in (599, 600, 601, 4299, 4300, 4301, 8000):
+            with self.subTest(count=count):
+                answers = told(self.QUAY, 10 ** count, ["come A 1", "come B 1", "come C 1"])
+                behind = "0" * (count - 1)
+                self.assertTrue(answers == ["0", "1" + behind + "1", "2" + behind + "2"])
+
+    def test_the_metres_moved(self):
+        rows = ["come A 1", "come B 1", "come C 1", "leave A", "up", "up"]
+        answers = told(self.QUAY, 10 ** 5000, rows)
+        noughts = "0" * 4999
+        self.assertTrue(answers[2:] == ["2" + noughts + "2", "gone", "2" + noughts + "2", "0"])
+
+    def test_a_length(self):
+        for count in (599, 600, 601, 4299, 4300, 4301, 8000):
+            with self.subTest(count=count):
+                rows = ["come A 1" + "0" * count, "come B 1", "leave A", "up"]
+                self.assertTrue(told(self.QUAY, 0, rows) == ["0", rows[0][7:], "gone", rows[0][7:]])
+                self.assertTrue(berths(self.QUAY, 0, rows[:2]) == [("A", 0, 10 ** count), ("B", 10 ** count, 1)])
+                self.assertTrue(berths(self.QUAY, 0, rows) == [("B", 0, 1)])
+
+    def test_a_length_that_just_fits_and_one_metre_more(self):
+        nines = "9" * 5000
+        self.assertEqual(told(10 ** 5000 - 1, 7, ["come A " + nines]), ["0"])
+        self.assertEqual(told(10 ** 5000 - 2, 7, ["come A " + nines, "come A 5"]), ["no", "0"])
+        self.assertEqual(told(100, 5, ["come A " + nines, "come A 5"]), ["no", "0"])
+
+    def test_berths(self):
+        rows = berths(self.QUAY, 10 ** 5000, ["come A 1", "come B " + "3" * 4800, "come C 2"])
+        size = 10 ** 4800 // 3
+        self.assertTrue(rows == [("A", 0, 1), ("B", 10 ** 5000 + 1, size), ("C", 2 * 10 ** 5000 + 1 + size, 2)])
+
+    def test_noughts_ahead_of_a_length(self):
+        self.assertEqual(berths(100, 5, ["come A " + "0" * 5000 + "7"]), [("A", 0, 7)])
+        self.assertEqual(berths(100, 5, ["come A +" + "0" * 5000 + "7"]), [("A", 0, 7)])
+
+    def test_a_length_of_nought_or_below(self):
+        for word in ("0" * 5000, "-" + "0" * 5000, "-" + "9" * 5000, "-" + "0" * 5000 + "7"):
+            self.assertEqual(told(self.QUAY, 5, ["come A " + word, "come A 5"]), ["no", "0"])
+
+    def test_a_name_that_is_there(self):
+        self.assertEqual(told(self.QUAY, 5, ["come A 1", "come A " + "9" * 5000]), ["0", "no"])
+
+    def test_a_word_that_is_no_number(self):
+        nines = "9" * 4500
+        for word in (
+            nines + "x", "x" + nines, nines + "x" + nines, nines + ".0", nines + "-" + nines, "--" + nines,
+            nines + "+", nines + "__" + nines, "_" + nines, nines + "_", "0x" + nines, nines + "e5",
+        ):
+            with self.subTest(head=word[:3], tail=word[-3:]):
+                rows = ["come A " + word, "come A " + nines + " 1", "come A 5"]
+                self.assertEqual(told(self.QUAY, 5, rows), ["no", "no", "0"])
+                self.assertEqual(berths(self.QUAY, 5, rows), [("A", 0, 5)])
 
 
 class HandedInTest(unittest.TestCase):

@@ -25,7 +25,7 @@ def modules():
 class PackageTest(unittest.TestCase):
     def test_the_modules_are_found(self):
         names = [name for name, text in modules()]
-        for name in ("__init__.py", "day.py", "errors.py", "places.py", "quay.py"):
+        for name in ("__init__.py", "day.py", "digits.py", "errors.py", "places.py", "quay.py"):
             self.assertIn(name, names)
 
     def test_only_the_packages_own_modules_are_imported(self):
